@@ -1,0 +1,1 @@
+"""Stridewell: memory fetched ahead by guessed strides."""
