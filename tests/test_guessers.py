@@ -4,27 +4,8 @@ import unittest
 
 from stridewell import guessers
 from stridewell.guessers import guesses
+from tests.model import behind_last
 from tests.samples import NONE, SIMPLE, within
-
-
-def behind_last(guesser, places):
-    """What is guessed behind the last of the places, straight from the document's words."""
-    word, *parts = guesser
-    here = places[-1]
-    if word == "none":
-        return []
-    if word == "next":
-        return [here + 1, here + 2, here + 3][:parts[0]]
-    if word == "stride":
-        strides = [b - a for a, b in zip(places, places[1:])]
-        last = strides[-parts[0]:]
-        if len(last) == parts[0] and last[0] != 0 and last == last[:1] * parts[0]:
-            return [here + last[0]]
-        return []
-    if word == "pairs":
-        came = [b for a, b in zip(places, places[1:]) if a == here]
-        return list(dict.fromkeys(reversed(came)))[:parts[0]]
-    return list(dict.fromkeys(behind_last(parts[0], places) + behind_last(parts[1], places)))
 
 
 class NoneTest(unittest.TestCase):
